@@ -88,7 +88,10 @@ func TestUpHalfMeet(t *testing.T) {
 		if !Covers(m, p) || !Covers(m, q) || fine && (Covers(low, p) && Covers(low, q) || Covers(high, p) && Covers(high, q)) {
 			t.Fatalf("Meet(%v, %v): %v", p, q, m)
 		}
-		up, _ := Up(high)
+		up, is := Up(high)
+		if fine != (m.Len < 32) || is != fine {
+			t.Fatalf("%v has halves: %v", m, fine)
+		}
 		if fine && (up != m || !Less(low, high) || Covers(low, high)) {
 			t.Fatalf("halves of %v: %v, %v", m, low, high)
 		}

@@ -48,7 +48,10 @@ func TestCheck(t *testing.T) {
 		turn func(*api.Config)
 		want api.Errno
 	}{
-		{func(c *api.Config) {}, api.OK}, {func(c *api.Config) { c.Hold, c.Width, c.Depth, c.Room = 0, 8, 8, 4096 }, api.OK}, {func(c *api.Config) { c.Hold, c.AS = 65535, 1 }, api.OK},
+		{func(c *api.Config) {}, api.OK}, {func(c *api.Config) { c.Hold, c.Width, c.Depth, c.Room = 0, 8, 8, 4096 }, api.OK}, {func(c *api.Config) { c.Hold, c.AS = 65535, 1 }, api.OK}, {func(c *api.Config) { c.Hold, c.AS = 3, 65535 }, api.OK}, {func(c *api.Config) { c.Peers = c.Peers[:1] }, api.OK},
+		{func(c *api.Config) {
+			c.Peers = append(c.Peers, api.Peer{AS: 1, Addr: 1 << 24}, api.Peer{AS: 65535, Addr: 2 << 24})
+		}, api.OK},
 		{func(c *api.Config) { c.AS = 0; c.Peers = nil }, api.ErrArg}, {func(c *api.Config) { c.AS = 65536 }, api.ErrArg}, {func(c *api.Config) { c.ID = 0 }, api.ErrArg}, {func(c *api.Config) { c.ID = 0xe0000000 }, api.ErrArg},
 		{func(c *api.Config) { c.Hold = 2 }, api.ErrArg}, {func(c *api.Config) { c.Hold = -1 }, api.ErrArg}, {func(c *api.Config) { c.Hold = 65536 }, api.ErrArg},
 		{func(c *api.Config) { c.Width = 0 }, api.ErrArg}, {func(c *api.Config) { c.Width = 9 }, api.ErrArg}, {func(c *api.Config) { c.Depth = 0 }, api.ErrArg}, {func(c *api.Config) { c.Depth = 9 }, api.ErrArg},

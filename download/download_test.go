@@ -118,6 +118,10 @@ func TestDegraded(t *testing.T) {
 	if !l.Degraded() {
 		t.Error("another Target, and still something is left")
 	}
+	if l.Target([]api.Entry{entry(0, 32, c), entry(0x0a000000, 8, a), entry(0x0a000000, 9, a)}); l.Left() != 1 || !l.Degraded() {
+		t.Error("one is left")
+	}
+	l.Target([]api.Entry{entry(0x0a000000, 9, a), entry(0x0a800000, 9, c)})
 	x.Room(3)
 	if _, done, no := l.Step(); !done || no != api.OK || l.Degraded() {
 		t.Errorf("room again: %v", no)

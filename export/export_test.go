@@ -52,6 +52,9 @@ func TestTold(t *testing.T) {
 
 // P21.1: who is told nothing.
 func TestNotTold(t *testing.T) {
+	if NoExport != 0xffffff01 || NoAdvertise != 0xffffff02 {
+		t.Error("the numbers of RFC 1997")
+	}
 	for i, c := range []struct {
 		peer int
 		turn func(c *api.Config, r *api.Path)
@@ -61,7 +64,7 @@ func TestNotTold(t *testing.T) {
 		{-1, func(c *api.Config, r *api.Path) {}, false}, {4, func(c *api.Config, r *api.Path) {}, false}, {math.MaxInt, func(c *api.Config, r *api.Path) {}, false},
 		{2, func(c *api.Config, r *api.Path) { c.Width = 0 }, false}, {2, func(c *api.Config, r *api.Path) { r.Attrs.Next = 0 }, false}, {2, func(c *api.Config, r *api.Path) { r.Attrs.HasMed = false }, false},
 		{1, func(c *api.Config, r *api.Path) { r.Peer, r.Inner = 3, true }, false}, {2, func(c *api.Config, r *api.Path) { r.Peer, r.Inner = 3, true }, true}, {1, func(c *api.Config, r *api.Path) { r.Peer, r.Inner = -1, true }, false},
-		{1, func(c *api.Config, r *api.Path) { r.Attrs.Comms = []uint32{NoAdvertise} }, false}, {2, func(c *api.Config, r *api.Path) { r.Attrs.Comms = []uint32{1, NoAdvertise} }, false},
+		{0, func(c *api.Config, r *api.Path) { r.Peer = 2 }, true}, {1, func(c *api.Config, r *api.Path) { r.Attrs.Comms = []uint32{NoAdvertise} }, false}, {2, func(c *api.Config, r *api.Path) { r.Attrs.Comms = []uint32{1, NoAdvertise} }, false},
 		{1, func(c *api.Config, r *api.Path) { r.Attrs.Comms = []uint32{NoExport} }, true}, {2, func(c *api.Config, r *api.Path) { r.Attrs.Comms = []uint32{NoExport} }, false},
 		{2, func(c *api.Config, r *api.Path) { c.Peers[2].Out = []api.Rule{{To: 32, Reject: true}} }, false}, {2, func(c *api.Config, r *api.Path) { c.Peers[2].Out = []api.Rule{{To: 7, Reject: true}} }, true},
 		{2, func(c *api.Config, r *api.Path) { c.Peers[2].Out = []api.Rule{{To: 32, AddComm: NoExport}} }, true},

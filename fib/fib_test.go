@@ -97,6 +97,11 @@ func TestRoom(t *testing.T) {
 			t.Errorf("room %d", n)
 		}
 	}
+	y := table(t, 3)
+	y.Room(0)
+	if y.Set(api.Entry{Hops: a}) != api.ErrFull {
+		t.Error("no room at all")
+	}
 	x.Room(2)
 	x.Cut(ten)
 	if x.Set(api.Entry{Hops: a}) != api.OK {

@@ -173,8 +173,8 @@ func (x *twin) act(r *rand.Rand) {
 	next := func() uint32 { return 0x0b000000 + uint32(r.Intn(4))<<16 }
 	switch r.Intn(7) {
 	case 0:
-		if x.r.Up(peer, 5) == api.OK {
-			x.ids[peer] = 5
+		if id := uint32(5 + r.Intn(2)); x.r.Up(peer, id) == api.OK {
+			x.ids[peer] = id
 		}
 	case 1:
 		if r.Intn(3) == 0 && x.r.Down(peer) == api.OK {

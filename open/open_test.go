@@ -45,7 +45,7 @@ func TestNotes(t *testing.T) {
 		{nil, 0, nil}, {[]byte{3, 0, 0, 0, 0, 0, 0, 0, 0}, 0, nil},
 		{hello(func(b []byte) { b[0] = 3; all(b) }), 1, []byte{0, 4}}, {hello(func(b []byte) { b[0] = 5 }), 1, []byte{0, 4}}, {append(hello(func(b []byte) { b[0] = 0 }), 1), 1, []byte{0, 4}},
 		{hello(all), 0, nil}, {append(hello(func([]byte) {}), 1), 0, nil}, {append(hello(all), 1, 2), 0, nil}, {append(hello(all), 1, 2, 3, 4), 0, nil},
-		{append(hello(all), 1, 2, 3), 4, nil},
+		{append(hello(all), 1, 2, 3), 4, nil}, {append(hello(func(b []byte) { all(b); b[9] = 1 }), 0), 4, nil},
 		{hello(func(b []byte) { all(b); b[9] = 0 }), 6, nil}, {hello(func(b []byte) { b[4] = 2 }), 6, nil},
 		{hello(func(b []byte) { all(b); b[9], b[4] = 0, 0 }), 3, nil},
 		{hello(func(b []byte) { all(b); b[9], b[4], b[8] = 0, 3, 1 }), 2, nil},

@@ -49,7 +49,7 @@ func TestRight(t *testing.T) {
 		row = append(row, api.Hop{Link: 240 + i, Share: i + 1})
 	}
 	most := slices.Clone(wrong()[0][:api.MaxRoom])
-	for i, l := range [][]api.Entry{nil, {}, {entry(0, 0, nil)}, {entry(0, 0, row)}, {entry(0, 0, a), entry(0, 1, a), entry(1<<31, 1, c)}, most} {
+	for i, l := range [][]api.Entry{nil, {}, {entry(0, 0, nil)}, {entry(0, 0, row)}, {entry(0, 0, []api.Hop{{Link: 0, Share: 1}})}, {entry(0, 0, a), entry(0, 1, a), entry(1<<31, 1, c)}, most} {
 		if !Right(l) {
 			t.Errorf("case %d is right", i)
 		}

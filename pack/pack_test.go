@@ -166,6 +166,15 @@ func TestFold(t *testing.T) {
 	} else if l[0].Attrs.Comms = append(l[0].Attrs.Comms, 5); len(l[2].Attrs.Comms) != 0 {
 		t.Error("R2: they share memory")
 	}
+	route := func(p api.Prefix) adjout.Change {
+		return adjout.Change{Prefix: p, Attrs: wide(4), There: true}
+	}
+	msgs, _ := Pack([]adjout.Change{route(ten), route(eleven)})
+	if l, no := Fold(msgs, false); no != api.OK || len(l) != 2 {
+		t.Errorf("%v %v", l, no)
+	} else if l[0].Attrs.Path[0].AS[0] = 9; l[1].Attrs.Path[0].AS[0] != 0 {
+		t.Error("R2: they share memory")
+	}
 	if l, no := Fold(nil, true); no != api.OK || len(l) != 0 {
 		t.Error("Fold of nothing")
 	}

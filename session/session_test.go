@@ -83,6 +83,14 @@ func TestNew(t *testing.T) {
 			t.Errorf("case %d: %v", i, no)
 		}
 	}
+	for _, as := range []uint32{1, 65535} {
+		if s, no := New(as, 1, 3, as); no != api.OK || !s.Inner() {
+			t.Errorf("AS %d: %v", as, no)
+		}
+	}
+	if Idle != 1 || OpenSent != 2 || OpenConfirm != 3 || Established != 4 || Opened != 1 || Closed != 2 || Got != 3 {
+		t.Error("the numbers of states and events")
+	}
 	if begin(t, 0, own).Inner() != true || begin(t, 65535, other).Inner() != false || begin(t, 3, other).ID() != 0 {
 		t.Error("Inner, ID")
 	}
@@ -216,6 +224,25 @@ func TestHoldTime(t *testing.T) {
 		if b, e := s.Tick(); tick < 4 && !bytes.Equal(b, alive) || tick == 4 && !bytes.Equal(b, says(4, 0)) || e != nil {
 			t.Errorf("OpenConfirm, tick %d: % x", tick, b)
 		}
+	}
+}
+
+// P12.2: the ticks are counted anew when OpenConfirm begins, and when a KEEPALIVE is read in it.
+func TestCountedAnew(t *testing.T) {
+	s := at(t, OpenSent, 9, other)
+	for range 8 {
+		s.Tick()
+	}
+	for _, in := range [][]byte{hello(other, 9), alive} {
+		s.Feed(in)
+		for range 8 {
+			if s.Tick(); s.State() == Idle {
+				t.Fatalf("% x", in)
+			}
+		}
+	}
+	if s.Tick(); s.State() != Idle {
+		t.Error("it is the hold time")
 	}
 }
 

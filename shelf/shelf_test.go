@@ -17,7 +17,9 @@ func TestShelf(t *testing.T) {
 	if s.Put(api.Prefix{Addr: 1}, "x") || s.Len() != 0 {
 		t.Error("a prefix that is not right")
 	}
-	s.Put(sub, "b")
+	if !s.Put(sub, "b") {
+		t.Error("Put")
+	}
 	s.Put(ten, "a")
 	s.Put(all, "c")
 	s.Put(ten, "d")

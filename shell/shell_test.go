@@ -96,7 +96,7 @@ func TestDecode(t *testing.T) {
 			t.Errorf("case %d, cut off: %v", i, l)
 		}
 	}
-	for i, b := range [][]byte{append(head(3, 0xea, 0x61), make([]byte, 60001)...), head(6, 0, 0, 0, 1, 8), head(6, 0, 0, 0, 0, 33), way(13, 6), way(13, 33), way(14, 2), way(14, 255), way(14, 0), way(18, 1), way(20, 0xff), way(20, 0xbf)} {
+	for i, b := range [][]byte{append(head(3, 0xea, 0x61), make([]byte, 60001)...), head(6, 0, 0, 0, 1, 8), head(6, 0, 0, 0, 0, 33), way(13, 6), way(13, 33), way(14, 2), way(14, 255), way(14, 0), head(5, 10, 0, 0, 0, 8, 2, 0, 0, 0, 0, 0, 0, 0, 0, 0, 0, 0, 0, 0), way(18, 1), way(20, 0xff), way(20, 0xbf)} {
 		if l := Decode(append(append(bytes.Clone(pick), b...), pick...)); len(l) != 1 {
 			t.Errorf("case %d, wrong: %v", i, l)
 		}
@@ -200,10 +200,10 @@ func TestText(t *testing.T) {
 		t.Error("Text of nothing")
 	}
 	l := []spec.Loc{
-		{Prefix: ten, Path: api.Path{Peer: 2}, Hops: []api.Hop{{Link: 3, Share: 10}, {Link: 255, Share: 6}}},
+		{Prefix: ten, Path: api.Path{Peer: 12}, Hops: []api.Hop{{Link: 3, Share: 10}, {Link: 255, Share: 6}}},
 		{Path: api.Path{Peer: -1}}, {Prefix: api.Prefix{Addr: 1}, Hops: []api.Hop{{Link: -7, Share: math.MinInt}}},
 	}
-	if got := Text(l); got != "10.0.0.0/8 2 3:10 255:6\n0.0.0.0/0 -1\n 0 -7:-9223372036854775808\n" {
+	if got := Text(l); got != "10.0.0.0/8 12 3:10 255:6\n0.0.0.0/0 -1\n 0 -7:-9223372036854775808\n" {
 		t.Errorf("%q", got)
 	}
 }

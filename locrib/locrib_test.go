@@ -135,6 +135,21 @@ func TestStep(t *testing.T) {
 	}
 }
 
+// P20.2: the same route of a peer that came back with another ID is another one.
+func TestAnotherID(t *testing.T) {
+	r := begin(t)
+	r.Inside(link(0x0b000000, 8, 3, 1))
+	for id := uint32(9); id < 11; id++ {
+		r.Up(0, id)
+		r.Say(0, says(0x0b000001, ten))
+		_, turned, _ := r.Step(0)
+		if x, ok := r.Get(ten); !turned || !ok || x.Path.ID != id {
+			t.Errorf("ID %d: %v %v", id, turned, x)
+		}
+		r.Down(0)
+	}
+}
+
 // twin keeps what was said beside a Rib, and which prefixes may wait.
 type twin struct {
 	t    *testing.T
